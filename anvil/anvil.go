@@ -1,0 +1,39 @@
+// Package anvil: a small language of words that are made of words: see DOC.md.
+package anvil
+
+import (
+	"slices"
+
+	"anvil/api"
+	"anvil/scan"
+)
+
+// Machine has words, and numbers on stacks.
+type Machine struct {
+	stack []int
+	aside []int
+}
+
+// New gives a machine (P3).
+func New() *Machine { return &Machine{} }
+
+// Do does a line (P4).
+func (m *Machine) Do(line string) api.Answer {
+	if len(line) > api.MaxLine {
+		return api.Answer{Err: api.ErrLong}
+	}
+	r := run{machine: m, words: scan.Words(line)}
+	return r.all()
+}
+
+// Stack tells the numbers on the stack (P5).
+func (m *Machine) Stack() []int { return slices.Clone(m.stack) }
+
+// Aside tells the numbers that are laid aside (P5).
+func (m *Machine) Aside() []int { return slices.Clone(m.aside) }
+
+// Words tells the names of all words of one's own (P5).
+func (m *Machine) Words() []string { return nil }
+
+// See tells a definition as text (P6).
+func (m *Machine) See(name string) (string, api.Errno) { return "", api.ErrWord }
