@@ -12,6 +12,8 @@ import (
 type Machine struct {
 	stack []int
 	aside []int
+	own   []ownWord // the newest at the end
+	begun int       // how many words of one's own were begun, so that no token is given twice
 }
 
 // New gives a machine (P3).
@@ -33,7 +35,19 @@ func (m *Machine) Stack() []int { return slices.Clone(m.stack) }
 func (m *Machine) Aside() []int { return slices.Clone(m.aside) }
 
 // Words tells the names of all words of one's own (P5).
-func (m *Machine) Words() []string { return nil }
+func (m *Machine) Words() []string {
+	names := make([]string, len(m.own))
+	for at, w := range m.own {
+		names[at] = w.Name()
+	}
+	return names
+}
 
 // See tells a definition as text (P6).
-func (m *Machine) See(name string) (string, api.Errno) { return "", api.ErrWord }
+func (m *Machine) See(name string) (string, api.Errno) {
+	w := m.newest(name)
+	if w == nil {
+		return "", api.ErrWord
+	}
+	return w.see(), api.OK
+}

@@ -299,10 +299,14 @@ func TestEmptiedStacksAreFresh(t *testing.T) {
 func TestAllTexts(t *testing.T) {
 	pieces := strings.Fields("+ - * / mod = < > and or xor not dup drop swap over rot >r r> r@ depth . emit cr @ ! execute" +
 		" : ; variable constant marker forget ' recurse if else then begin until again while repeat do loop i leave exit" +
-		" 0 1 2 3 -1 72 999999999999999999 1 2 3 4 5 6 7 8 9 1 2 3 4 5 6 7 8 9 x \xff é -")
+		" 0 1 2 3 -1 72 999999999999999999 1 2 3 4 5 6 7 8 9 1 2 3 4 5 6 7 8 9 x \xff é -" +
+		" : : : : : : ; ; ; ; ; ; ; ; ; a b c a b c a b c a b c if then if then begin until do loop do loop i recurse")
 	source := rand.New(rand.NewSource(1))
 	m := anvil.New()
-	for range 20000 {
+	for turn := range 40000 {
+		if turn%400 == 0 {
+			m = anvil.New()
+		}
 		var line strings.Builder
 		for range source.Intn(60) {
 			if source.Intn(40) == 0 {
@@ -317,6 +321,7 @@ func TestAllTexts(t *testing.T) {
 
 func checkAnyLine(t *testing.T, m *anvil.Machine, line string) {
 	t.Helper()
+	names := m.Words()
 	a := m.Do(line)
 	stack, aside := m.Stack(), m.Aside()
 	if len(a.Out) > api.MaxOut || len(stack) > api.MaxStack || len(aside) > api.MaxStack {
@@ -328,7 +333,20 @@ func checkAnyLine(t *testing.T, m *anvil.Machine, line string) {
 	if a.Err != api.OK && a.Err != api.ErrLong && len(stack)+len(aside) != 0 {
 		t.Fatalf("P4: Do(%q) = %+v leaves %v, %v", line, a, stack, aside)
 	}
-	if len(m.Words()) != 0 {
-		t.Fatalf("P5: Words() = %q behind %q", m.Words(), line)
+	checkAnyWords(t, m, names, line)
+}
+
+// checkAnyWords holds the words behind a line against those ahead of it.
+func checkAnyWords(t *testing.T, m *anvil.Machine, before []string, line string) {
+	t.Helper()
+	names := m.Words()
+	if len(names) > api.MaxWords || len(names) < len(before) || !slices.Equal(names[:len(before)], before) {
+		t.Fatalf("P5: Words() = %q behind %q, was %q", names, line, before)
+	}
+	for _, name := range names {
+		text, err := m.See(name)
+		if words := strings.Fields(text); err != api.OK || words[0] != ":" || len(words) > 1+api.MaxBody {
+			t.Fatalf("P6: See(%q) = %q, %d behind %q", name, text, err, line)
+		}
 	}
 }

@@ -2,15 +2,16 @@ package anvil
 
 import (
 	"anvil/api"
-	"anvil/scan"
+	"anvil/lexicon"
 )
 
 // run is a line while it is being done.
 type run struct {
 	machine *Machine
 	words   []string
-	at      int // the word of the line that is being done
+	at      int // the word of the line that is being done or read
 	steps   int
+	depth   int // how many definitions are being done, each within the next
 	out     []byte
 }
 
@@ -29,21 +30,30 @@ func (r *run) fail(err api.Errno) api.Answer {
 	return api.Answer{Out: string(r.out), Err: err, Word: r.at}
 }
 
-// step does the word at hand; the steps are asked first, ahead of what the word means.
 func (r *run) step() api.Errno {
+	if err := r.countStep(); err != api.OK {
+		return err
+	}
+	return r.do(r.machine.meaning(r.words[r.at]))
+}
+
+// countStep counts a step; it is asked ahead of all else that the step may fail at.
+func (r *run) countStep() api.Errno {
 	if r.steps == api.MaxSteps {
 		return api.ErrSteps
 	}
 	r.steps++
-	return r.do(meaning(r.words[r.at]))
+	return api.OK
 }
 
 func (r *run) do(w word) api.Errno {
 	switch w := w.(type) {
 	case number:
-		return r.commit(0, 0, effect{lays: []int{int(w)}})
-	case primitive:
+		return r.lay(int(w))
+	case lexicon.Primitive:
 		return r.doPrimitive(w)
+	case *definition:
+		return r.doDefinition(w)
 	case bold:
 		return r.doBold(w)
 	default:
@@ -51,55 +61,45 @@ func (r *run) do(w word) api.Errno {
 	}
 }
 
-func (r *run) doPrimitive(p primitive) api.Errno {
+func (r *run) doPrimitive(p lexicon.Primitive) api.Errno {
 	stack, aside := r.machine.stack, r.machine.aside
-	if len(stack) < p.takes || len(aside) < p.takesAside {
+	if len(stack) < p.Takes || len(aside) < p.TakesAside {
 		return api.ErrUnder
 	}
-	e, err := p.plan(stack[len(stack)-p.takes:], aside[len(aside)-p.takesAside:], len(stack))
+	e, err := p.Plan(stack[len(stack)-p.Takes:], aside[len(aside)-p.TakesAside:], len(stack))
 	if err != api.OK {
 		return err
 	}
-	return r.commit(p.takes, p.takesAside, e)
+	return r.commit(p.Takes, p.TakesAside, e)
 }
 
 // commit lets an effect happen in place of the numbers taken, if there is room for it.
-func (r *run) commit(takes, takesAside int, e effect) api.Errno {
+func (r *run) commit(takes, takesAside int, e lexicon.Effect) api.Errno {
 	m := r.machine
 	stack, aside := m.stack[:len(m.stack)-takes], m.aside[:len(m.aside)-takesAside]
-	if len(stack)+len(e.lays) > api.MaxStack || len(aside)+len(e.laysAside) > api.MaxStack {
+	if len(stack)+len(e.Lays) > api.MaxStack || len(aside)+len(e.LaysAside) > api.MaxStack {
 		return api.ErrOver
 	}
-	if len(r.out)+len(e.tells) > api.MaxOut {
+	if len(r.out)+len(e.Tells) > api.MaxOut {
 		return api.ErrOut
 	}
-	m.stack, m.aside = append(stack, e.lays...), append(aside, e.laysAside...)
-	r.out = append(r.out, e.tells...)
+	m.stack, m.aside = append(stack, e.Lays...), append(aside, e.LaysAside...)
+	r.out = append(r.out, e.Tells...)
 	return api.OK
 }
 
-// doBold does a bold word outside of definitions.
-func (r *run) doBold(b bold) api.Errno {
-	switch b {
-	case ":", "variable", "constant", "marker":
-		return r.askName(scan.IsName)
-	case "forget", "'":
-		// Any text may be looked for; what is no name is simply not found.
-		return r.askName(func(string) bool { return true })
-	default:
-		return api.ErrForm
-	}
+// lay lays a number on the stack.
+func (r *run) lay(n int) api.Errno {
+	return r.commit(0, 0, lexicon.Effect{Lays: []int{n}})
 }
 
-// askName asks for the name behind the word at hand.
-// It never answers OK: no word of one's own can be made, and so none can be found.
-func (r *run) askName(fits func(string) bool) api.Errno {
-	if r.at+1 == len(r.words) {
-		return api.ErrName
+// take takes numbers from the stack; they are to be read ahead of what is laid next.
+func (r *run) take(n int) ([]int, api.Errno) {
+	left := len(r.machine.stack) - n
+	if left < 0 {
+		return nil, api.ErrUnder
 	}
-	name := r.words[r.at+1]
-	if !fits(name) || isBold(name) {
-		return api.ErrName
-	}
-	return api.ErrWord
+	taken := r.machine.stack[left:]
+	r.machine.stack = r.machine.stack[:left]
+	return taken, api.OK
 }

@@ -1,10 +1,16 @@
 package anvil
 
-import "anvil/scan"
+import (
+	"strconv"
 
-// word is what a word of a line means; run.do tells the kinds apart.
+	"anvil/lexicon"
+	"anvil/scan"
+)
+
+// word is what a word of a line or of a body means; run.do tells the kinds apart.
+// The other kinds are lexicon.Primitive and the words of one's own.
 type word interface {
-	isWord()
+	String() string // as See tells it within a body
 }
 
 // number is a word that is laid on the stack.
@@ -13,16 +19,24 @@ type number int
 // bold is a word that always means itself, so that no name can hide it.
 type bold string
 
-func (number) isWord()    {}
-func (bold) isWord()      {}
-func (primitive) isWord() {}
+// control is a bold word within a body; goal is where in the body it goes on, if not behind itself.
+type control struct {
+	bold
+	goal int
+}
+
+func (n number) String() string { return strconv.Itoa(int(n)) }
+func (b bold) String() string   { return string(b) }
 
 // meaning gives what a text means when it is read; nil, if it means nothing.
-func meaning(text string) word {
+func (m *Machine) meaning(text string) word {
 	if isBold(text) {
 		return bold(text)
 	}
-	if p, ok := language[text]; ok {
+	if w := m.newest(text); w != nil {
+		return w
+	}
+	if p, ok := lexicon.Find(text); ok {
 		return p
 	}
 	if n, ok := scan.Number(text); ok {

@@ -1,0 +1,130 @@
+package anvil
+
+import (
+	"strings"
+
+	"anvil/api"
+	"anvil/scan"
+)
+
+// doBold does a bold word outside of definitions.
+func (r *run) doBold(b bold) api.Errno {
+	switch b {
+	case ":":
+		return r.define()
+	case "'":
+		return r.layToken()
+	case "variable", "constant", "marker":
+		return notYet(r.askNewName())
+	case "forget":
+		_, err := r.askOwn()
+		return notYet(err)
+	default:
+		return api.ErrForm
+	}
+}
+
+// notYet stands in for what can't be made or forgotten so far: only what is wrong with the name is told apart.
+func notYet(err api.Errno) api.Errno {
+	if err == api.OK {
+		return api.ErrWord
+	}
+	return err
+}
+
+// define reads a definition, from its `:` to its `;`.
+func (r *run) define() api.Errno {
+	if err := r.askNewName(); err != api.OK {
+		return err
+	}
+	shared := r.machine.begin(r.words[r.at+1])
+	body, err := r.readBody()
+	if err != api.OK {
+		return err
+	}
+	r.machine.own = append(r.machine.own, &definition{common: shared, body: body})
+	return api.OK
+}
+
+// readBody reads the words behind a definition's name, up to its `;`.
+func (r *run) readBody() ([]word, api.Errno) {
+	var d draft
+	for r.at += 2; r.at < len(r.words); r.at++ {
+		if r.words[r.at] == ";" && len(d.open) == 0 {
+			return d.body, api.OK
+		}
+		if err := r.readWord(&d); err != api.OK {
+			return nil, err
+		}
+	}
+	r.at = len(r.words) - 1
+	return nil, api.ErrForm
+}
+
+func (r *run) readWord(d *draft) api.Errno {
+	text := strings.Clone(r.words[r.at]) // the body may keep it, and the line is not kept
+	w := r.machine.meaning(text)
+	if b, ok := w.(bold); ok && !d.fits(b) {
+		return api.ErrForm
+	}
+	if w == nil {
+		return api.ErrWord
+	}
+	if text == "'" {
+		return r.readToken(d)
+	}
+	return d.add(w)
+}
+
+// readToken reads a `'` with its name; it stays the word at hand until nothing can fail at it.
+func (r *run) readToken(d *draft) api.Errno {
+	w, err := r.askOwn()
+	if err != api.OK {
+		return err
+	}
+	if err := d.add(number(w.Token())); err != api.OK {
+		return err
+	}
+	r.at++
+	return api.OK
+}
+
+func (r *run) layToken() api.Errno {
+	w, err := r.askOwn()
+	if err != api.OK {
+		return err
+	}
+	if err := r.lay(w.Token()); err != api.OK {
+		return err
+	}
+	r.at++
+	return api.OK
+}
+
+// askNewName asks whether a word of one's own can be made with the name behind the word at hand.
+func (r *run) askNewName() api.Errno {
+	if r.at+1 == len(r.words) {
+		return api.ErrName
+	}
+	name := r.words[r.at+1]
+	if !scan.IsName(name) || isBold(name) {
+		return api.ErrName
+	}
+	if len(r.machine.own) == api.MaxWords {
+		return api.ErrFull
+	}
+	return api.OK
+}
+
+// askOwn gives the newest word of one's own with the name behind the word at hand.
+// Any text may be looked for; what is no name is simply not found.
+func (r *run) askOwn() (ownWord, api.Errno) {
+	if r.at+1 == len(r.words) || isBold(r.words[r.at+1]) {
+		return nil, api.ErrName
+	}
+	w := r.machine.newest(r.words[r.at+1])
+	if w == nil {
+		return nil, api.ErrWord
+	}
+	return w, api.OK
+}

@@ -1,0 +1,60 @@
+package anvil
+
+import (
+	"strconv"
+	"strings"
+)
+
+const firstToken = 1000
+
+// ownWord is a word of one's own.
+type ownWord interface {
+	word
+	Name() string
+	Token() int
+	see() string
+}
+
+// common is what words of one's own share.
+type common struct {
+	name  string
+	token int
+}
+
+func (c common) Name() string { return c.name }
+func (c common) Token() int   { return c.token }
+
+// String tells the token, since a name alone does not say which of its words is meant.
+func (c common) String() string { return "#" + strconv.Itoa(c.token) }
+
+// definition is a word that is made of words.
+type definition struct {
+	common
+	body []word
+}
+
+func (d *definition) see() string {
+	var text strings.Builder
+	text.WriteString(":")
+	for _, w := range d.body {
+		text.WriteString(" " + w.String())
+	}
+	return text.String()
+}
+
+// newest gives the newest word of one's own of that name; nil, if there is none.
+func (m *Machine) newest(name string) ownWord {
+	for at := len(m.own) - 1; at >= 0; at-- {
+		if m.own[at].Name() == name {
+			return m.own[at]
+		}
+	}
+	return nil
+}
+
+// begin gives a word of one's own its name and its token, which stays given even if the word is never ended.
+func (m *Machine) begin(name string) common {
+	token := firstToken + m.begun
+	m.begun++
+	return common{name: strings.Clone(name), token: token} // the line is not kept
+}
