@@ -43,7 +43,7 @@ func (m *Machine) Words() []string {
 	return names
 }
 
-// See tells a definition as text (P6).
+// See tells a word of one's own as text (P6).
 func (m *Machine) See(name string) (string, api.Errno) {
 	w := m.newest(name)
 	if w == nil {

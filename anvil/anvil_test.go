@@ -3,6 +3,7 @@ package anvil_test
 import (
 	"math/rand"
 	"slices"
+	"strconv"
 	"strings"
 	"testing"
 
@@ -139,33 +140,38 @@ func TestFailing(t *testing.T) {
 }
 
 func TestTooFewNumbers(t *testing.T) {
-	needs := map[string]int{"not": 1, "dup": 1, "drop": 1, ">r": 1, ".": 1, "emit": 1, "rot": 3}
+	needs := map[string]int{"not": 1, "dup": 1, "drop": 1, ">r": 1, ".": 1, "emit": 1, "rot": 3, "@": 1, "!": 2, "execute": 1}
 	for _, word := range []string{"+", "-", "*", "/", "mod", "=", "<", ">", "and", "or", "xor", "swap", "over"} {
 		needs[word] = 2
 	}
 	for word, need := range needs {
 		for n := range need {
-			m := anvil.New()
-			check(t, m, "9 >r 9 >r 9 >r", api.Answer{})
+			m := with(t, "9 >r 9 >r 9 >r")
 			check(t, m, strings.Repeat("0 ", n)+word, api.Answer{Err: api.ErrUnder, Word: n})
 			checkStacks(t, m, nil, nil)
 		}
-		check(t, anvil.New(), strings.Repeat("40 ", need)+word+" 1 drop", api.Answer{Out: told(word)})
+		check(t, anvil.New(), strings.Repeat("40 ", need)+word+" 1 drop", enough(word))
 	}
 	for _, word := range []string{"r>", "r@"} {
 		check(t, anvil.New(), "1 2 3 "+word, api.Answer{Err: api.ErrUnder, Word: 3})
 	}
 }
 
-// told is what a word tells of the number 40.
-func told(word string) string {
+// enough is what a word answers to numbers that all are 40.
+func enough(word string) api.Answer {
 	switch word {
 	case ".":
-		return "40 "
+		return api.Answer{Out: "40 "}
 	case "emit":
-		return "("
+		return api.Answer{Out: "("}
+	case "@":
+		return api.Answer{Err: api.ErrPlace, Word: 1}
+	case "!":
+		return api.Answer{Err: api.ErrPlace, Word: 2}
+	case "execute":
+		return api.Answer{Err: api.ErrGone, Word: 1}
 	}
-	return ""
+	return api.Answer{}
 }
 
 func TestMaxStack(t *testing.T) {
@@ -299,7 +305,7 @@ func TestEmptiedStacksAreFresh(t *testing.T) {
 func TestAllTexts(t *testing.T) {
 	pieces := strings.Fields("+ - * / mod = < > and or xor not dup drop swap over rot >r r> r@ depth . emit cr @ ! execute" +
 		" : ; variable constant marker forget ' recurse if else then begin until again while repeat do loop i leave exit" +
-		" 0 1 2 3 -1 72 999999999999999999 1 2 3 4 5 6 7 8 9 1 2 3 4 5 6 7 8 9 x \xff é -" +
+		" 0 1 2 3 -1 72 999999999999999999 1000 1001 1002 1010 variable variable constant constant @ ! execute 1 2 3 4 5 6 7 8 9 1 2 3 4 5 6 7 8 9 x \xff é -" +
 		" : : : : : : ; ; ; ; ; ; ; ; ; a b c a b c a b c a b c if then if then begin until do loop do loop i recurse")
 	source := rand.New(rand.NewSource(1))
 	m := anvil.New()
@@ -345,8 +351,21 @@ func checkAnyWords(t *testing.T, m *anvil.Machine, before []string, line string)
 	}
 	for _, name := range names {
 		text, err := m.See(name)
-		if words := strings.Fields(text); err != api.OK || words[0] != ":" || len(words) > 1+api.MaxBody {
+		if err != api.OK || !isSeen(text) {
 			t.Fatalf("P6: See(%q) = %q, %d behind %q", name, text, err, line)
 		}
 	}
+}
+
+// isSeen says whether a text may be what See tells of some word of one's own.
+func isSeen(text string) bool {
+	words := strings.Split(text, " ")
+	if words[0] == ":" {
+		return len(words) <= 1+api.MaxBody
+	}
+	if words[0] != "variable" && words[0] != "constant" || len(words) != 2 {
+		return false
+	}
+	n, err := strconv.Atoi(words[1])
+	return err == nil && strconv.Itoa(n) == words[1]
 }

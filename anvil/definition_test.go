@@ -222,6 +222,9 @@ func TestMaxWords(t *testing.T) {
 		{": x ;", api.ErrFull, 0}, {": w0 ;", api.ErrFull, 0}, {"1 : x what ;", api.ErrFull, 1}, {": x", api.ErrFull, 0},
 		{": 7 ;", api.ErrName, 0}, {": if ;", api.ErrName, 0}, {"1 1 :", api.ErrName, 2}, {": ; ;", api.ErrName, 0},
 		{"w0 w39 what", api.ErrWord, 2}, {"' w39 drop ' x", api.ErrWord, 3},
+		{"1 variable x", api.ErrFull, 1}, {"variable w0", api.ErrFull, 0}, {"1 variable", api.ErrName, 1}, {"variable 7", api.ErrName, 0},
+		{"1 constant x", api.ErrFull, 1}, {"constant x", api.ErrFull, 0}, {"constant", api.ErrName, 0}, {"constant 7", api.ErrName, 0},
+		{"constant ;", api.ErrName, 0}, {"variable abcdefghijklm", api.ErrName, 0}, {"constant abcdefghijklm", api.ErrName, 0},
 	} {
 		check(t, m, c.line, api.Answer{Err: c.err, Word: c.word})
 		checkWords(t, m, names...)
@@ -263,6 +266,14 @@ func TestMaxSteps(t *testing.T) {
 		{"995 spend what", api.Answer{Err: api.ErrWord, Word: 2}},
 		{"994 spend : x 1 2 3 4 5 6 ; ' x", api.Answer{}},
 		{"994 spend ' two 1 '", api.Answer{Err: api.ErrSteps, Word: 5}},
+		{"995 spend variable v", api.Answer{}}, {"996 spend variable w", api.Answer{Err: api.ErrSteps, Word: 2}},
+		{"996 spend variable", api.Answer{Err: api.ErrSteps, Word: 2}}, {"996 spend constant", api.Answer{Err: api.ErrSteps, Word: 2}},
+		{"994 spend 3 constant k", api.Answer{}}, {"995 spend 3 constant c", api.Answer{Err: api.ErrSteps, Word: 3}},
+		{"996 spend @", api.Answer{Err: api.ErrSteps, Word: 2}}, {"996 spend execute", api.Answer{Err: api.ErrSteps, Word: 2}},
+		{"995 spend 1 @", api.Answer{Err: api.ErrSteps, Word: 3}}, {"995 spend 1 execute", api.Answer{Err: api.ErrSteps, Word: 3}},
+		{"994 spend v @ drop", api.Answer{Err: api.ErrSteps, Word: 4}},
+		{"991 spend 1 ' two execute", api.Answer{}}, {"992 spend 1 ' two execute", api.Answer{Err: api.ErrSteps, Word: 5}},
+		{"993 spend 1 v !", api.Answer{}}, {"994 spend 2 v !", api.Answer{Err: api.ErrSteps, Word: 4}},
 		{"996 spend : y what ;", api.Answer{Err: api.ErrSteps, Word: 2}},
 		{"992 spend 1 two", api.Answer{}}, {"993 spend 1 two", api.Answer{Err: api.ErrSteps, Word: 3}},
 		{"995 spend two", api.Answer{Err: api.ErrSteps, Word: 2}}, {"994 spend two", api.Answer{Err: api.ErrUnder, Word: 2}},
@@ -272,7 +283,8 @@ func TestMaxSteps(t *testing.T) {
 			checkStacks(t, m, nil, nil)
 		}
 	}
-	checkWords(t, m, "spend", "two", "x")
+	checkWords(t, m, "spend", "two", "x", "v", "k")
+	checkSee(t, m, "v", "variable 1")
 	check(t, with(t, ": f begin again ;"), "1 . f", api.Answer{Out: "1 ", Err: api.ErrSteps, Word: 2})
 	check(t, with(t, ": f begin recurse again ;"), "f", api.Answer{Err: api.ErrDeep})
 	m = with(t, ": spend 0 do loop ; : f recurse ;")
@@ -294,6 +306,9 @@ func TestStepsOfEachWord(t *testing.T) {
 		{": f do loop ; 3 0 f", 8}, {": f do loop ; 0 0 f", 5}, {": f do i leave loop ; 9 0 f", 7},
 		{": f exit 1 2 ; f", 3}, {": f begin exit again ; f", 4}, {": f dup if 1 - recurse then ; 1 f", 11},
 		{": f three three ; f", 10},
+		{"variable v", 1}, {"variable v v", 2}, {"variable v 5 v !", 4}, {"variable v v @", 3}, {"5 constant k k", 3},
+		{"' three execute", 5}, {"variable v v execute", 3}, {"5 constant k ' k execute", 4},
+		{": f ' three execute ; f", 7}, {": f ' three execute ; ' f execute", 8}, {"variable v : f v @ 1 + v ! ; f f", 16},
 	} {
 		left := api.MaxSteps - c.steps
 		check(t, with(t, words), c.line+" "+strconv.Itoa(left-4)+" spend", api.Answer{})
@@ -332,13 +347,14 @@ func TestFullMachineGivesNoToken(t *testing.T) {
 }
 
 func TestSee(t *testing.T) {
-	m := with(t, ": a ; : dup 1 ;")
+	m := with(t, ": a ; : dup 1 ; variable v 9 constant k")
 	for _, c := range []struct{ body, want string }{
 		{"", ":"}, {"007 -0 -12 999999999999999999", ": 7 0 -12 999999999999999999"},
 		{"a dup a drop", ": #1000 #1001 #1000 drop"}, {"' a ' dup", ": 1000 1001"},
 		{"recurse exit", ": recurse exit"},
 		{"+ - * / mod = < > and or xor not", ": + - * / mod = < > and or xor not"},
 		{"drop swap over rot >r r> r@ depth . emit cr", ": drop swap over rot >r r> r@ depth . emit cr"},
+		{"@ ! execute", ": @ ! execute"}, {"v @ k !", ": #1002 @ #1003 !"}, {"' v ' k", ": 1002 1003"},
 		{"if else then begin while repeat begin until begin again do i leave loop", ": if else then begin while repeat begin until begin again do i leave loop"},
 		{"\n1\t\t2 \r", ": 1 2"},
 	} {

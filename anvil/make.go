@@ -14,7 +14,11 @@ func (r *run) doBold(b bold) api.Errno {
 		return r.define()
 	case "'":
 		return r.layToken()
-	case "variable", "constant", "marker":
+	case "variable":
+		return r.makeVariable()
+	case "constant":
+		return r.makeConstant()
+	case "marker":
 		return notYet(r.askNewName())
 	case "forget":
 		_, err := r.askOwn()
@@ -32,17 +36,39 @@ func notYet(err api.Errno) api.Errno {
 	return err
 }
 
+func (r *run) makeVariable() api.Errno {
+	if err := r.askNewName(); err != api.OK {
+		return err
+	}
+	r.keep(&variable{common: r.begin()})
+	r.at++
+	return api.OK
+}
+
+func (r *run) makeConstant() api.Errno {
+	if err := r.askNewName(); err != api.OK {
+		return err
+	}
+	taken, err := r.take(1)
+	if err != api.OK {
+		return err
+	}
+	r.keep(constant{common: r.begin(), number: taken[0]})
+	r.at++
+	return api.OK
+}
+
 // define reads a definition, from its `:` to its `;`.
 func (r *run) define() api.Errno {
 	if err := r.askNewName(); err != api.OK {
 		return err
 	}
-	shared := r.machine.begin(r.words[r.at+1])
+	shared := r.begin()
 	body, err := r.readBody()
 	if err != api.OK {
 		return err
 	}
-	r.machine.own = append(r.machine.own, &definition{common: shared, body: body})
+	r.keep(&definition{common: shared, body: body})
 	return api.OK
 }
 
@@ -100,6 +126,12 @@ func (r *run) layToken() api.Errno {
 	r.at++
 	return api.OK
 }
+
+// begin begins a word of one's own with the name behind the word at hand.
+func (r *run) begin() common { return r.machine.begin(r.words[r.at+1]) }
+
+// keep ends a word of one's own, which is there from now on.
+func (r *run) keep(w ownWord) { r.machine.own = append(r.machine.own, w) }
 
 // askNewName asks whether a word of one's own can be made with the name behind the word at hand.
 func (r *run) askNewName() api.Errno {

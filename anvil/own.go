@@ -42,11 +42,37 @@ func (d *definition) see() string {
 	return text.String()
 }
 
+// variable is a place for a number.
+type variable struct {
+	common
+	number int
+}
+
+func (v *variable) see() string { return "variable " + strconv.Itoa(v.number) }
+
+// constant is a number with a name.
+type constant struct {
+	common
+	number int
+}
+
+func (c constant) see() string { return "constant " + strconv.Itoa(c.number) }
+
 // newest gives the newest word of one's own of that name; nil, if there is none.
 func (m *Machine) newest(name string) ownWord {
 	for at := len(m.own) - 1; at >= 0; at-- {
 		if m.own[at].Name() == name {
 			return m.own[at]
+		}
+	}
+	return nil
+}
+
+// byToken gives the word of one's own that has that token; nil, if there is none.
+func (m *Machine) byToken(token int) ownWord {
+	for _, w := range m.own {
+		if w.Token() == token {
+			return w
 		}
 	}
 	return nil

@@ -54,6 +54,10 @@ func (r *run) do(w word) api.Errno {
 		return r.doPrimitive(w)
 	case *definition:
 		return r.doDefinition(w)
+	case *variable:
+		return r.lay(w.Token())
+	case constant:
+		return r.lay(w.number)
 	case bold:
 		return r.doBold(w)
 	default:
@@ -66,7 +70,11 @@ func (r *run) doPrimitive(p lexicon.Primitive) api.Errno {
 	if len(stack) < p.Takes || len(aside) < p.TakesAside {
 		return api.ErrUnder
 	}
-	e, err := p.Plan(stack[len(stack)-p.Takes:], aside[len(aside)-p.TakesAside:], len(stack))
+	taken, takenAside := stack[len(stack)-p.Takes:], aside[len(aside)-p.TakesAside:]
+	if p.Reaches() {
+		return r.reach(p, taken)
+	}
+	e, err := p.Plan(taken, takenAside, len(stack))
 	if err != api.OK {
 		return err
 	}

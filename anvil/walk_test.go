@@ -6,7 +6,6 @@ import (
 	"strings"
 	"testing"
 
-	"anvil/anvil"
 	"anvil/api"
 )
 
@@ -50,9 +49,20 @@ func wordsOf(parts []part) []string {
 func randomParts(source *rand.Rand, deep int, loops bool) []part {
 	var parts []part
 	for range source.Intn(5) {
-		parts = append(parts, randomPart(source, deep, loops))
+		if source.Intn(4) == 0 {
+			parts = append(parts, randomReach(source)...)
+		} else {
+			parts = append(parts, randomPart(source, deep, loops))
+		}
 	}
 	return parts
+}
+
+// randomReach makes up a token, and what comes to its word.
+func randomReach(source *rand.Rand) []part {
+	tokens := strings.Fields("v v w w v v w w k 1000 1001 1002 1003 1004")
+	words := strings.Fields("@ @ ! ! execute")
+	return []part{{open: tokens[source.Intn(len(tokens))]}, {open: words[source.Intn(len(words))]}}
 }
 
 func randomPart(source *rand.Rand, deep int, loops bool) part {
@@ -78,9 +88,13 @@ func randomWord(source *rand.Rand, loops bool) string {
 	return words[source.Intn(len(words))]
 }
 
+// The words that a walker knows of beside its body, and their tokens from 1000 on; the body's own is 1003.
+const walkerWords = "variable v variable w 7 constant k"
+
 // walker does a tree as the document says, on a stack of its own.
 type walker struct {
 	body  []part
+	v, w  int
 	stack []int
 	out   string
 	steps int
@@ -249,11 +263,56 @@ func (w *walker) word(name string, count int) ending {
 		return w.push(count)
 	case "recurse":
 		return w.call()
+	case "v":
+		return w.push(1000)
+	case "w":
+		return w.push(1001)
+	case "k":
+		return w.push(7)
+	case "@", "!", "execute":
+		return w.reach(name)
 	}
 	if n, err := strconv.Atoi(name); err == nil {
 		return w.push(n)
 	}
 	return w.primitive(name)
+}
+
+func (w *walker) reach(name string) ending {
+	if name == "!" && len(w.stack) < 2 {
+		return w.fail(api.ErrUnder)
+	}
+	taken, ok := w.pop(1)
+	if !ok {
+		return byError
+	}
+	if name == "execute" {
+		return w.execute(taken[0])
+	}
+	place := &w.v
+	if taken[0] == 1001 {
+		place = &w.w
+	} else if taken[0] != 1000 {
+		return w.fail(api.ErrPlace)
+	}
+	if name == "@" {
+		return w.push(*place)
+	}
+	number, _ := w.pop(1)
+	*place = number[0]
+	return atEnd
+}
+
+func (w *walker) execute(token int) ending {
+	switch token {
+	case 1000, 1001:
+		return w.push(token)
+	case 1002:
+		return w.push(7)
+	case 1003:
+		return w.call()
+	}
+	return w.fail(api.ErrGone)
 }
 
 func (w *walker) primitive(name string) ending {
@@ -300,6 +359,23 @@ func truth(holds bool) int {
 	return 0
 }
 
+// seenOf is what See tells of a body.
+func seenOf(words []string) string {
+	text := ":"
+	for _, word := range words {
+		switch word {
+		case "v":
+			word = "#1000"
+		case "w":
+			word = "#1001"
+		case "k":
+			word = "#1002"
+		}
+		text += " " + word
+	}
+	return text
+}
+
 func TestControlsAgainstAWalker(t *testing.T) {
 	source := rand.New(rand.NewSource(7))
 	ends := map[api.Errno]int{}
@@ -310,9 +386,9 @@ func TestControlsAgainstAWalker(t *testing.T) {
 			continue
 		}
 		text := strings.Join(words, " ")
-		m := anvil.New()
+		m := with(t, walkerWords)
 		check(t, m, ": f "+text+" ;", api.Answer{})
-		checkSee(t, m, "f", strings.TrimSpace(": "+text))
+		checkSee(t, m, "f", seenOf(words))
 		w := walker{body: body, stack: []int{2, 1, 0, 3, 0, 4, 1}, steps: 8}
 		want := api.Answer{}
 		if w.call() == byError {
@@ -322,12 +398,14 @@ func TestControlsAgainstAWalker(t *testing.T) {
 		want.Out = w.out
 		check(t, m, "2 1 0 3 0 4 1 f", want)
 		checkStacks(t, m, w.stack, nil)
+		checkSee(t, m, "v", "variable "+strconv.Itoa(w.v))
+		checkSee(t, m, "w", "variable "+strconv.Itoa(w.w))
 		if t.Failed() {
 			t.Fatalf("the body was %q", text)
 		}
 		ends[want.Err]++
 	}
-	for _, err := range []api.Errno{api.OK, api.ErrUnder, api.ErrOver, api.ErrDeep, api.ErrSteps} {
+	for _, err := range []api.Errno{api.OK, api.ErrUnder, api.ErrOver, api.ErrPlace, api.ErrGone, api.ErrDeep, api.ErrSteps} {
 		if ends[err] < 100 {
 			t.Errorf("too few lines ended with %d: %v", err, ends)
 		}

@@ -15,6 +15,7 @@ type Effect struct {
 }
 
 // Plan works out the effect of p on the numbers that it takes; depth counts these too.
+// Of a word that reaches there is nothing to plan.
 func (p Primitive) Plan(taken, takenAside []int, depth int) (Effect, api.Errno) {
 	switch p.group {
 	case reckons:
@@ -25,9 +26,11 @@ func (p Primitive) Plan(taken, takenAside []int, depth int) (Effect, api.Errno) 
 		return Effect{Lays: []int{c}}, api.OK
 	case moves:
 		return move(p.Name, taken, takenAside, depth), api.OK
-	default:
+	case tells:
 		text, err := tell(p.Name, taken)
 		return Effect{Tells: text}, err
+	default:
+		return Effect{}, api.OK
 	}
 }
 

@@ -16,10 +16,15 @@ const (
 	reckons group = iota
 	moves
 	tells
+	reaches
 )
 
 // String gives the word as it is written.
 func (p Primitive) String() string { return p.Name }
+
+// Reaches says whether p comes to a word of one's own, by a token that it takes.
+// What it does then only a machine knows, whose words these are.
+func (p Primitive) Reaches() bool { return p.group == reaches }
 
 // language has the words of the language by their names; it stands beside Find, which does not read it.
 var language = map[string]Primitive{}
@@ -28,7 +33,7 @@ func init() {
 	for _, name := range []string{
 		"+", "-", "*", "/", "mod", "=", "<", ">", "and", "or", "xor", "not",
 		"dup", "drop", "swap", "over", "rot", ">r", "r>", "r@", "depth",
-		".", "emit", "cr",
+		".", "emit", "cr", "@", "!", "execute",
 	} {
 		language[name], _ = Find(name)
 	}
@@ -61,6 +66,10 @@ func Find(name string) (Primitive, bool) {
 		return Primitive{Name: name, group: tells, Takes: 1}, true
 	case "cr":
 		return Primitive{Name: name, group: tells}, true
+	case "@", "execute":
+		return Primitive{Name: name, group: reaches, Takes: 1}, true
+	case "!":
+		return Primitive{Name: name, group: reaches, Takes: 2}, true
 	}
 	return Primitive{}, false
 }

@@ -13,12 +13,12 @@ var needs = map[string][2]int{
 	"=": {2, 0}, "<": {2, 0}, ">": {2, 0}, "and": {2, 0}, "or": {2, 0}, "xor": {2, 0}, "not": {1, 0},
 	"dup": {1, 0}, "drop": {1, 0}, "swap": {2, 0}, "over": {2, 0}, "rot": {3, 0},
 	">r": {1, 0}, "r>": {0, 1}, "r@": {0, 1}, "depth": {0, 0},
-	".": {1, 0}, "emit": {1, 0}, "cr": {0, 0},
+	".": {1, 0}, "emit": {1, 0}, "cr": {0, 0}, "@": {1, 0}, "!": {2, 0}, "execute": {1, 0},
 }
 
 // none: texts that are no words of the language, some of them nearly.
 var none = []string{
-	"", " ", "what", "DUP", "dup ", " dup", "du", "dupp", "+ ", "++", "r", ">>", ">r>", "0", "7", "-1", "é", "\xff", "\x00",
+	"", " ", "what", "DUP", "dup ", " dup", "du", "dupp", "+ ", "++", "r", ">>", ">r>", "@@", "!@", "Execute", "execut", "0", "7", "-1", "é", "\xff", "\x00",
 	":", ";", "variable", "constant", "marker", "forget", "'", "recurse", "if", "else", "then", "begin", "until",
 	"again", "while", "repeat", "do", "loop", "i", "leave", "exit",
 }
@@ -90,6 +90,20 @@ func TestMapAndFunctionDoTheSame(t *testing.T) {
 		if errA != api.OK || errB != api.OK || a.Tells != b.Tells ||
 			!slices.Equal(a.Lays, b.Lays) || !slices.Equal(a.LaysAside, b.LaysAside) {
 			t.Errorf("%q: the map plans %+v, %d, the function %+v, %d", name, a, errA, b, errB)
+		}
+	}
+}
+
+func TestWordsThatReach(t *testing.T) {
+	reach := []string{"@", "!", "execute"}
+	for name, n := range needs {
+		p, _ := Find(name)
+		if p.Reaches() != slices.Contains(reach, name) {
+			t.Errorf("%q reaches: %t", name, p.Reaches())
+		}
+		e, err := p.Plan([]int{33, 44, 55}[:n[0]], []int{66}[:n[1]], 5)
+		if p.Reaches() && (err != api.OK || len(e.Lays)+len(e.LaysAside)+len(e.Tells) != 0) {
+			t.Errorf("%q plans %+v, %d", name, e, err)
 		}
 	}
 }

@@ -11,7 +11,7 @@ import (
 
 // TestMachinesDoNotChangeTheMap: words of one's own that hide those of the language leave the map as it is.
 func TestMachinesDoNotChangeTheMap(t *testing.T) {
-	names := strings.Fields("+ - * / mod = < > and or xor not dup drop swap over rot >r r> r@ depth . emit cr own")
+	names := strings.Fields("+ - * / mod = < > and or xor not dup drop swap over rot >r r> r@ depth . emit cr @ ! execute own")
 	before := map[string]lexicon.Primitive{}
 	for _, name := range names {
 		before[name], _ = lexicon.Listed(name)
@@ -39,6 +39,9 @@ func TestMachinesDoNotReadTheMap(t *testing.T) {
 	lexicon.WithoutMap(func() {
 		m := anvil.New()
 		if a := m.Do(": sq dup * ; 5 sq . what"); a != (api.Answer{Out: "25 ", Err: api.ErrWord, Word: 8}) {
+			t.Errorf("P4: without the map: %+v", a)
+		}
+		if a := m.Do("variable v 3 v ! v @ ' sq execute ."); a != (api.Answer{Out: "9 "}) {
 			t.Errorf("P4: without the map: %+v", a)
 		}
 		if text, err := m.See("sq"); text != ": dup *" || err != api.OK {
