@@ -301,31 +301,38 @@ func TestEmptiedStacksAreFresh(t *testing.T) {
 	checkStacks(t, m, []int{4, 5}, nil)
 }
 
-// TestAllTexts holds what is true of every line against lines that are put together blindly.
+// TestAllTexts holds what is true of every line against lines that are put together blindly; every other machine meets no word that forgets.
 func TestAllTexts(t *testing.T) {
 	pieces := strings.Fields("+ - * / mod = < > and or xor not dup drop swap over rot >r r> r@ depth . emit cr @ ! execute" +
-		" : ; variable constant marker forget ' recurse if else then begin until again while repeat do loop i leave exit" +
+		" : ; variable constant ' recurse if else then begin until again while repeat do loop i leave exit" +
 		" 0 1 2 3 -1 72 999999999999999999 1000 1001 1002 1010 variable variable constant constant @ ! execute 1 2 3 4 5 6 7 8 9 1 2 3 4 5 6 7 8 9 x \xff é -" +
 		" : : : : : : ; ; ; ; ; ; ; ; ; a b c a b c a b c a b c if then if then begin until do loop do loop i recurse")
+	forgetting := append(strings.Fields("marker marker marker marker forget forget"), pieces...)
 	source := rand.New(rand.NewSource(1))
 	m := anvil.New()
-	for turn := range 40000 {
+	for turn := range 60000 {
 		if turn%400 == 0 {
 			m = anvil.New()
+		}
+		forgets := turn/400%2 == 1
+		from := pieces
+		if forgets {
+			from = forgetting
 		}
 		var line strings.Builder
 		for range source.Intn(60) {
 			if source.Intn(40) == 0 {
 				line.WriteByte(byte(source.Intn(256)))
 			}
-			line.WriteString(pieces[source.Intn(len(pieces))])
+			line.WriteString(from[source.Intn(len(from))])
 			line.WriteByte(" \t\n\r"[source.Intn(4)])
 		}
-		checkAnyLine(t, m, line.String())
+		checkAnyLine(t, m, line.String(), forgets)
 	}
 }
 
-func checkAnyLine(t *testing.T, m *anvil.Machine, line string) {
+// checkAnyLine does a line; forgets says whether it may make words to be forgotten.
+func checkAnyLine(t *testing.T, m *anvil.Machine, line string, forgets bool) {
 	t.Helper()
 	names := m.Words()
 	a := m.Do(line)
@@ -339,15 +346,25 @@ func checkAnyLine(t *testing.T, m *anvil.Machine, line string) {
 	if a.Err != api.OK && a.Err != api.ErrLong && len(stack)+len(aside) != 0 {
 		t.Fatalf("P4: Do(%q) = %+v leaves %v, %v", line, a, stack, aside)
 	}
-	checkAnyWords(t, m, names, line)
+	if !forgets {
+		checkOnlyMore(t, m, names, line)
+	}
+	checkAnyWords(t, m, line)
 }
 
-// checkAnyWords holds the words behind a line against those ahead of it.
-func checkAnyWords(t *testing.T, m *anvil.Machine, before []string, line string) {
+func checkOnlyMore(t *testing.T, m *anvil.Machine, before []string, line string) {
 	t.Helper()
 	names := m.Words()
-	if len(names) > api.MaxWords || len(names) < len(before) || !slices.Equal(names[:len(before)], before) {
+	if len(names) < len(before) || !slices.Equal(names[:len(before)], before) {
 		t.Fatalf("P5: Words() = %q behind %q, was %q", names, line, before)
+	}
+}
+
+func checkAnyWords(t *testing.T, m *anvil.Machine, line string) {
+	t.Helper()
+	names := m.Words()
+	if len(names) > api.MaxWords {
+		t.Fatalf("P5: Words() = %q behind %q", names, line)
 	}
 	for _, name := range names {
 		text, err := m.See(name)
@@ -362,6 +379,9 @@ func isSeen(text string) bool {
 	words := strings.Split(text, " ")
 	if words[0] == ":" {
 		return len(words) <= 1+api.MaxBody
+	}
+	if text == "marker" {
+		return true
 	}
 	if words[0] != "variable" && words[0] != "constant" || len(words) != 2 {
 		return false

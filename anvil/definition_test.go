@@ -309,6 +309,8 @@ func TestStepsOfEachWord(t *testing.T) {
 		{"variable v", 1}, {"variable v v", 2}, {"variable v 5 v !", 4}, {"variable v v @", 3}, {"5 constant k k", 3},
 		{"' three execute", 5}, {"variable v v execute", 3}, {"5 constant k ' k execute", 4},
 		{": f ' three execute ; f", 7}, {": f ' three execute ; ' f execute", 8}, {"variable v : f v @ 1 + v ! ; f f", 16},
+		{"marker m", 1}, {"marker m m", 2}, {"marker m ' m execute", 3}, {": f ; forget f", 2}, {"variable v marker m forget v", 3},
+		{"marker m : f m m ; f", 5}, {"marker m : f m 1 if m then ; f", 8}, {"marker m : g 1 ; : f m g g ; f", 9},
 	} {
 		left := api.MaxSteps - c.steps
 		check(t, with(t, words), c.line+" "+strconv.Itoa(left-4)+" spend", api.Answer{})

@@ -19,21 +19,12 @@ func (r *run) doBold(b bold) api.Errno {
 	case "constant":
 		return r.makeConstant()
 	case "marker":
-		return notYet(r.askNewName())
+		return r.makeMarker()
 	case "forget":
-		_, err := r.askOwn()
-		return notYet(err)
+		return r.forget()
 	default:
 		return api.ErrForm
 	}
-}
-
-// notYet stands in for what can't be made or forgotten so far: only what is wrong with the name is told apart.
-func notYet(err api.Errno) api.Errno {
-	if err == api.OK {
-		return api.ErrWord
-	}
-	return err
 }
 
 func (r *run) makeVariable() api.Errno {
@@ -54,6 +45,25 @@ func (r *run) makeConstant() api.Errno {
 		return err
 	}
 	r.keep(constant{common: r.begin(), number: taken[0]})
+	r.at++
+	return api.OK
+}
+
+func (r *run) makeMarker() api.Errno {
+	if err := r.askNewName(); err != api.OK {
+		return err
+	}
+	r.keep(marker{common: r.begin()})
+	r.at++
+	return api.OK
+}
+
+func (r *run) forget() api.Errno {
+	w, err := r.askOwn()
+	if err != api.OK {
+		return err
+	}
+	r.machine.forget(w)
 	r.at++
 	return api.OK
 }

@@ -58,6 +58,11 @@ type constant struct {
 
 func (c constant) see() string { return "constant " + strconv.Itoa(c.number) }
 
+// marker is a word that makes itself forgotten.
+type marker struct{ common }
+
+func (w marker) see() string { return "marker" }
+
 // newest gives the newest word of one's own of that name; nil, if there is none.
 func (m *Machine) newest(name string) ownWord {
 	for at := len(m.own) - 1; at >= 0; at-- {
@@ -83,4 +88,15 @@ func (m *Machine) begin(name string) common {
 	token := firstToken + m.begun
 	m.begun++
 	return common{name: strings.Clone(name), token: token} // the line is not kept
+}
+
+// forget forgets a word of one's own with all that were made behind it, which are those of higher tokens.
+// A definition that goes on though it is forgotten may ask it of a marker that is gone too: nothing is left to forget then.
+func (m *Machine) forget(first ownWord) {
+	at := len(m.own)
+	for at > 0 && m.own[at-1].Token() >= first.Token() {
+		at--
+	}
+	clear(m.own[at:]) // so that the room behind keeps nothing of them
+	m.own = m.own[:at]
 }

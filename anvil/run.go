@@ -58,6 +58,9 @@ func (r *run) do(w word) api.Errno {
 		return r.lay(w.Token())
 	case constant:
 		return r.lay(w.number)
+	case marker:
+		r.machine.forget(w)
+		return api.OK
 	case bold:
 		return r.doBold(w)
 	default:

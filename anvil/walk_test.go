@@ -2,6 +2,7 @@ package anvil_test
 
 import (
 	"math/rand"
+	"slices"
 	"strconv"
 	"strings"
 	"testing"
@@ -60,7 +61,7 @@ func randomParts(source *rand.Rand, deep int, loops bool) []part {
 
 // randomReach makes up a token, and what comes to its word.
 func randomReach(source *rand.Rand) []part {
-	tokens := strings.Fields("v v w w v v w w k 1000 1001 1002 1003 1004")
+	tokens := strings.Fields("v v v w w w v v v w w w v v v w w w k 999 1000 1001 1002 1003 1004 1005 1006")
 	words := strings.Fields("@ @ ! ! execute")
 	return []part{{open: tokens[source.Intn(len(tokens))]}, {open: words[source.Intn(len(words))]}}
 }
@@ -81,19 +82,23 @@ func randomPart(source *rand.Rand, deep int, loops bool) part {
 }
 
 func randomWord(source *rand.Rand, loops bool) string {
-	words := strings.Fields("0 1 2 3 0 1 2 3 0 1 2 3 5 dup dup dup over drop . + - not < exit recurse i leave i i leave")
+	words := strings.Fields("0 1 2 3 0 1 2 3 0 1 2 3 5 dup dup dup over drop . + - not < exit recurse m n i leave i i leave")
 	if !loops {
 		words = words[:len(words)-5]
 	}
 	return words[source.Intn(len(words))]
 }
 
-// The words that a walker knows of beside its body, and their tokens from 1000 on; the body's own is 1003.
-const walkerWords = "variable v variable w 7 constant k"
+// The words that a walker knows of beside its body, and their tokens from 1000 on; the body's own is the last one.
+const (
+	walkerWords = "variable v marker m variable w 7 constant k marker n"
+	walkerNames = "v m w k n f"
+)
 
 // walker does a tree as the document says, on a stack of its own.
 type walker struct {
 	body  []part
+	there int // how many words are not forgotten
 	v, w  int
 	stack []int
 	out   string
@@ -266,9 +271,15 @@ func (w *walker) word(name string, count int) ending {
 	case "v":
 		return w.push(1000)
 	case "w":
-		return w.push(1001)
+		return w.push(1002)
 	case "k":
 		return w.push(7)
+	case "m":
+		w.there = min(w.there, 1)
+		return atEnd
+	case "n":
+		w.there = min(w.there, 4)
+		return atEnd
 	case "@", "!", "execute":
 		return w.reach(name)
 	}
@@ -290,7 +301,7 @@ func (w *walker) reach(name string) ending {
 		return w.execute(taken[0])
 	}
 	place := &w.v
-	if taken[0] == 1001 {
+	if taken[0] == 1002 && w.there > 2 {
 		place = &w.w
 	} else if taken[0] != 1000 {
 		return w.fail(api.ErrPlace)
@@ -304,15 +315,14 @@ func (w *walker) reach(name string) ending {
 }
 
 func (w *walker) execute(token int) ending {
-	switch token {
-	case 1000, 1001:
-		return w.push(token)
-	case 1002:
-		return w.push(7)
-	case 1003:
-		return w.call()
+	names := strings.Fields(walkerNames)[:w.there]
+	if token < 1000 || token >= 1000+len(names) {
+		return w.fail(api.ErrGone)
 	}
-	return w.fail(api.ErrGone)
+	if name := names[token-1000]; name != "f" {
+		return w.word(name, 0)
+	}
+	return w.call()
 }
 
 func (w *walker) primitive(name string) ending {
@@ -363,13 +373,8 @@ func truth(holds bool) int {
 func seenOf(words []string) string {
 	text := ":"
 	for _, word := range words {
-		switch word {
-		case "v":
-			word = "#1000"
-		case "w":
-			word = "#1001"
-		case "k":
-			word = "#1002"
+		if at := slices.Index(strings.Fields(walkerNames), word); at >= 0 {
+			word = "#" + strconv.Itoa(1000+at)
 		}
 		text += " " + word
 	}
@@ -378,7 +383,7 @@ func seenOf(words []string) string {
 
 func TestControlsAgainstAWalker(t *testing.T) {
 	source := rand.New(rand.NewSource(7))
-	ends := map[api.Errno]int{}
+	ends, left := map[api.Errno]int{}, map[int]int{}
 	for range 60000 {
 		body := randomParts(source, 4, false)
 		words := wordsOf(body)
@@ -389,7 +394,7 @@ func TestControlsAgainstAWalker(t *testing.T) {
 		m := with(t, walkerWords)
 		check(t, m, ": f "+text+" ;", api.Answer{})
 		checkSee(t, m, "f", seenOf(words))
-		w := walker{body: body, stack: []int{2, 1, 0, 3, 0, 4, 1}, steps: 8}
+		w := walker{body: body, there: 6, stack: []int{2, 1, 0, 3, 0, 4, 1}, steps: 8}
 		want := api.Answer{}
 		if w.call() == byError {
 			want = api.Answer{Err: w.err, Word: 7}
@@ -398,16 +403,25 @@ func TestControlsAgainstAWalker(t *testing.T) {
 		want.Out = w.out
 		check(t, m, "2 1 0 3 0 4 1 f", want)
 		checkStacks(t, m, w.stack, nil)
+		checkWords(t, m, strings.Fields(walkerNames)[:w.there]...)
 		checkSee(t, m, "v", "variable "+strconv.Itoa(w.v))
-		checkSee(t, m, "w", "variable "+strconv.Itoa(w.w))
+		if w.there > 2 {
+			checkSee(t, m, "w", "variable "+strconv.Itoa(w.w))
+		}
 		if t.Failed() {
 			t.Fatalf("the body was %q", text)
 		}
 		ends[want.Err]++
+		left[w.there]++
 	}
 	for _, err := range []api.Errno{api.OK, api.ErrUnder, api.ErrOver, api.ErrPlace, api.ErrGone, api.ErrDeep, api.ErrSteps} {
 		if ends[err] < 100 {
 			t.Errorf("too few lines ended with %d: %v", err, ends)
+		}
+	}
+	for _, there := range []int{1, 4, 6} {
+		if left[there] < 100 {
+			t.Errorf("too few lines left %d words: %v", there, left)
 		}
 	}
 }
